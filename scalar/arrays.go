@@ -50,16 +50,20 @@ func throughItem(do monad, i api.Item) (api.Item, api.Errno) {
 
 // Dyadic goes through two arrays.
 func Dyadic(e api.Env, glyph rune, a, b api.Array) (api.Array, api.Errno) {
-	p, x := paired(e, glyph, a, b)
+	do, x := dyadOf(e, glyph, a, b)
 	if x != api.OK {
 		return api.Array{}, x
 	}
-	return p.whole(p.arrays(a, b))
+	shape, x := together(a, b)
+	if x != api.OK {
+		return api.Array{}, x
+	}
+	return whole(glyph, do, shape, pairsOf(a, b))
 }
 
 // DyadicAt goes through two arrays of which one has more axes: the other one lies along some of them.
 func DyadicAt(e api.Env, glyph rune, axes []int, a, b api.Array) (api.Array, api.Errno) {
-	p, x := paired(e, glyph, a, b)
+	do, x := dyadOf(e, glyph, a, b)
 	if x != api.OK {
 		return api.Array{}, x
 	}
@@ -71,13 +75,13 @@ func DyadicAt(e api.Env, glyph rune, axes []int, a, b api.Array) (api.Array, api
 	if x != api.OK {
 		return api.Array{}, x
 	}
-	return p.whole(p.through(great.Shape, func(i int) (x, y *api.Item) {
+	return whole(glyph, do, great.Shape, func(i int) (x, y *api.Item) {
 		x, y = &great.Items[i], &small.Items[placeAlong(great.Shape, along, i)]
 		if len(a.Shape) < len(b.Shape) {
 			x, y = y, x
 		}
 		return x, y
-	}))
+	})
 }
 
 // axesOf are the axes, from 0 on, of the greater array along which the other one lies.
@@ -125,11 +129,11 @@ func isOne(a api.Array) bool {
 }
 
 // opened is the array that a right item is. It is gone through and not kept, so it needs no lists of its own.
-func opened(i api.Item) api.Array {
+func opened(i *api.Item) api.Array {
 	if i.Kind == api.Box {
 		return i.Box[0]
 	}
-	return api.Array{Items: []api.Item{i}}
+	return api.Array{Items: []api.Item{*i}}
 }
 
 // empty is an array without items: a function of none is a 0.

@@ -397,6 +397,118 @@ func TestOthersGoAheadOfLimit(t *testing.T) { // P5.2
 	}
 }
 
+// many is a box of a vector of just one item, which is a box of n zeros: with a box of m zeros m boxes come of it, m × (n+1) cells.
+func many(n int) api.Item {
+	return boxed(vec(zeros(n)))
+}
+
+func zeros(n int) api.Item {
+	return boxed(nums(make([]int, n)...))
+}
+
+// full is a whole number of as many limbs as may be, each 1.
+func full() api.Item {
+	return number(api.Rat{Num: slices.Repeat([]uint32{1}, api.MaxLimbs), Den: []uint32{1}})
+}
+
+// TestTheFirstErrorOfWhatIsTooGreat has items that are too great for themselves, or all together, and other errors ahead of them, in them, and behind.
+func TestTheFirstErrorOfWhatIsTooGreat(t *testing.T) { // P5.2
+	bad := boxed(vec(boxed(vec(append(numItems(make([]int, 199)...), char('a'))...))))
+	wider := boxed(arr([]int{1, 2}, numItems(0, 0)...))
+	cases := []struct {
+		what string
+		a, b []api.Item
+		e    api.Errno
+	}{
+		{"too great, then Domain", []api.Item{many(200), char('a')}, []api.Item{zeros(200), num(0)}, api.Limit},
+		{"Domain, then too great", []api.Item{char('a'), many(200)}, []api.Item{num(0), zeros(200)}, api.Domain},
+		{"too great, then Length", []api.Item{many(200), zeros(2)}, []api.Item{zeros(200), zeros(3)}, api.Limit},
+		{"too great, then Rank", []api.Item{many(200), zeros(2)}, []api.Item{zeros(200), wider}, api.Limit},
+		{"Rank, then too great", []api.Item{zeros(2), many(200)}, []api.Item{wider, zeros(200)}, api.Rank},
+		{"Domain in what is too great", []api.Item{bad, num(0)}, []api.Item{zeros(200), num(0)}, api.Domain},
+		{"too great, then Domain in what is too great", []api.Item{many(200), bad}, []api.Item{zeros(200), zeros(200)}, api.Limit},
+		{"just not too great, then Domain", []api.Item{many(127), char('a')}, []api.Item{zeros(128), num(0)}, api.Domain},
+		{"just too great, then Domain", []api.Item{many(128), char('a')}, []api.Item{zeros(128), num(0)}, api.Limit},
+		{"too great together, then Domain", []api.Item{many(127), many(127), char('a')}, []api.Item{zeros(128), zeros(128), num(0)}, api.Domain},
+		{"too great together, then too great, then Domain", []api.Item{many(127), many(127), many(128), char('a')}, []api.Item{zeros(128), zeros(128), zeros(128), num(0)}, api.Limit},
+		{"too great together, then a Limit, then Domain", []api.Item{many(127), many(127), full(), char('a')}, []api.Item{zeros(128), zeros(128), full(), num(0)}, api.Limit},
+		{"too great together, then Domain, then a Limit", []api.Item{many(127), many(127), char('a'), full()}, []api.Item{zeros(128), zeros(128), num(0), full()}, api.Domain},
+		{"a Limit, then too great together, then Domain", []api.Item{full(), many(127), many(127), char('a')}, []api.Item{full(), zeros(128), zeros(128), num(0)}, api.Limit},
+		{"too great together", []api.Item{many(127), many(127)}, []api.Item{zeros(128), zeros(128)}, api.Limit},
+		{"further in, too great, then Domain", []api.Item{boxed(vec(many(200), num(1))), char('a')}, []api.Item{boxed(vec(zeros(200), num(1))), num(0)}, api.Limit},
+		{"further in, too great together, then Domain", []api.Item{boxed(vec(many(127), many(127))), char('a')}, []api.Item{boxed(vec(zeros(128), zeros(128))), num(0)}, api.Limit},
+		{"further in, too great together, then Domain there", []api.Item{boxed(vec(many(127), many(127), char('a')))}, []api.Item{boxed(vec(zeros(128), zeros(128), num(0)))}, api.Domain},
+	}
+	for _, c := range cases {
+		a, b := vec(c.a...), vec(c.b...)
+		got, e := scalar.Dyadic(plain(), '×', a, b)
+		expect(t, c.what, got, e, api.Array{}, c.e)
+		got, e = scalar.Dyadic(plain(), '×', b, a)
+		expect(t, c.what+", turned about", got, e, api.Array{}, c.e)
+		if _, e := wantDyadic(plain(), '×', a, b); e != c.e {
+			t.Error(c.what, "is", e, "as the document says")
+		}
+		got, e = scalar.DyadicAt(plain(), '×', []int{2}, arr([]int{1, len(c.a)}, c.a...), b)
+		expect(t, c.what+", along an axis", got, e, api.Array{}, c.e)
+	}
+}
+
+// TestNumbersBehindWhatIsTooGreat has more cells than may be, then two numbers, then a character: the numbers' own error tells, if they have one.
+func TestNumbersBehindWhatIsTooGreat(t *testing.T) { // P5.2
+	all := numbers()
+	edges := append(all[len(all)-3:], rat.OfInt(0), rat.OfInt(-1), rat.OfInt(2), rat.OfInt(1025), frac(1, 3))
+	after := func(glyph rune, x, y []api.Item) api.Errno {
+		a := append(append([]api.Item{many(127), many(127)}, x...), char('a'))
+		b := append(append([]api.Item{zeros(128), zeros(128)}, y...), num(0))
+		got, e := scalar.Dyadic(plain(), glyph, vec(a...), vec(b...))
+		expect(t, string(glyph), got, e, api.Array{}, e)
+		return e
+	}
+	for _, glyph := range "+-×÷⌈|*!<∧" {
+		var x, y []api.Item
+		for _, p := range edges {
+			for _, q := range edges {
+				switch _, e := scalar.Two(plain(), glyph, p, q); e {
+				case api.OK:
+					x, y = append(x, number(p)), append(y, number(q))
+				case api.Limit:
+					if got := after(glyph, []api.Item{number(p)}, []api.Item{number(q)}); got != e {
+						t.Error(rat.Print(p), string(glyph), rat.Print(q), "is", got)
+					}
+				}
+			}
+		}
+		if got := after(glyph, x, y); got != api.Domain {
+			t.Error("all that are no errors,", string(glyph), "is", got)
+		}
+	}
+}
+
+func TestErrorsOfManySizes(t *testing.T) { // P5.2
+	d := dice(362436069)
+	sizes := []int{1, 2, 60, 130, 200}
+	for round := range 60 {
+		var a, b []api.Item
+		for range 2 + d.next(4) {
+			switch d.next(8) {
+			case 0:
+				a, b = append(a, char('a')), append(b, num(0))
+			case 1:
+				a, b = append(a, full()), append(b, full())
+			case 2:
+				a, b = append(a, zeros(2)), append(b, zeros(3))
+			case 3:
+				a, b = append(a, num(2)), append(b, zeros(d.next(3)+1))
+			default:
+				a, b = append(a, many(sizes[d.next(5)])), append(b, zeros(sizes[d.next(5)]))
+			}
+		}
+		got, e := scalar.Dyadic(plain(), '×', vec(a...), vec(b...))
+		want, wantE := wantDyadic(plain(), '×', vec(a...), vec(b...))
+		expect(t, round, got, e, want, wantE)
+	}
+}
+
 func TestLessItself(t *testing.T) { // P5.5
 	for _, a := range samples() {
 		opposite, e := scalar.Monadic(plain(), '-', a)

@@ -127,6 +127,14 @@ func hasNone(glyph rune, x, y *api.Rat) bool {
 	return false
 }
 
+// isSmall tells whether what comes of two right numbers, and all that comes up on the way, surely has no more limbs than it may, without reckoning it.
+func isSmall(glyph rune, x, y *api.Rat) bool {
+	if glyph == '*' || glyph == '!' {
+		return false
+	}
+	return len(x.Num)+len(x.Den)+len(y.Num)+len(y.Den) < api.MaxLimbs
+}
+
 // These ask right numbers, and look at their limbs alone.
 
 func isZero(x *api.Rat) bool {

@@ -8,15 +8,19 @@ import (
 	"glyph/rat"
 )
 
-// pairing goes through two arrays, and counts the cells of what it makes of them. From where they are too many on it makes nothing any more, but goes on to the end: any other error goes ahead of Limit.
+// pairing goes through two arrays, and counts the cells of what it makes of them. Behind so many as it keeps it goes on for the errors alone: what lies further on may have one, and the first one tells.
 type pairing struct {
 	glyph rune
 	do    dyad
 	cells int
+	kept  int
 }
 
-// paired is ready to go through two arrays; or their error.
-func paired(e api.Env, glyph rune, a, b api.Array) (*pairing, api.Errno) {
+// pairs are the two items, by their number, that come together in an array of a shape.
+type pairs func(i int) (x, y *api.Item)
+
+// dyadOf is the function of two numbers that a glyph is, if both arrays are right; or their error.
+func dyadOf(e api.Env, glyph rune, a, b api.Array) (dyad, api.Errno) {
 	do := ofTwo(e.CT)[glyph]
 	switch {
 	case do == nil:
@@ -24,101 +28,87 @@ func paired(e api.Env, glyph rune, a, b api.Array) (*pairing, api.Errno) {
 	case !array.Right(a) || !array.Right(b) || !rat.Right(e.CT):
 		return nil, api.ErrForm
 	}
-	return &pairing{glyph: glyph, do: do}, api.OK
+	return do, api.OK
 }
 
-// whole is what was made of both arrays, if that is not too great. It is no deeper than the deeper one of them.
-func (p *pairing) whole(a api.Array, e api.Errno) (api.Array, api.Errno) {
-	switch {
-	case e != api.OK:
+// whole is an array of a shape, made of pairs of items. First it looks for the errors that are to be seen without reckoning: if the first one of these is Limit, that is what is told whatever numbers are too great ahead of it, and no work is done for it.
+func whole(glyph rune, do dyad, shape []int, pair pairs) (api.Array, api.Errno) {
+	look := pairing{glyph: glyph, do: func(x, y api.Rat) (api.Rat, api.Errno) { return unreckoned(glyph, x, y) }}
+	if _, e := look.through(shape, pair); e == api.Limit {
 		return api.Array{}, e
-	case p.cells > api.MaxCells:
-		return api.Array{}, api.Limit
 	}
-	return a, api.OK
+	work := pairing{glyph: glyph, do: do, kept: api.MaxCells}
+	return work.through(shape, pair)
 }
 
-func (p *pairing) arrays(a, b api.Array) (api.Array, api.Errno) {
-	shape, e := together(a, b)
-	if e != api.OK {
-		return api.Array{}, e
+// unreckoned has the Domain error of a function of two numbers, and tells nothing else of it.
+func unreckoned(glyph rune, x, y api.Rat) (api.Rat, api.Errno) {
+	if hasNone(glyph, &x, &y) {
+		return api.Rat{}, api.Domain
 	}
-	return p.through(shape, func(i int) (x, y *api.Item) {
+	return api.Rat{}, api.OK
+}
+
+// pairsOf are those of two arrays that go together.
+func pairsOf(a, b api.Array) pairs {
+	return func(i int) (x, y *api.Item) {
 		return &a.Items[i%len(a.Items)], &b.Items[i%len(b.Items)]
-	})
+	}
 }
 
-// through is an array of a shape, made of as many pairs of items.
-func (p *pairing) through(shape []int, pair func(i int) (x, y *api.Item)) (api.Array, api.Errno) {
+// through is an array of a shape, made of as many pairs of items. Its items' errors go ahead of its own: that it has too many cells. It is no deeper than the deeper one of those that it is made of.
+func (p *pairing) through(shape []int, pair pairs) (api.Array, api.Errno) {
 	size, _ := array.Size(shape)
 	if size == 0 {
 		p.cells++
 		return empty(shape), api.OK
 	}
+	from := p.cells
 	out := api.Array{Shape: copyOf(shape)}
 	for i := range size {
 		x, y := pair(i)
-		if p.cells++; p.cells > api.MaxCells {
-			if e := p.refused(x, y); e != api.OK {
-				return api.Array{}, e
-			}
-			continue
-		}
-		item, e := p.items(*x, *y)
+		p.cells++
+		item, e := p.items(x, y)
 		if e != api.OK {
 			return api.Array{}, e
 		}
-		out.Items = append(out.Items, item)
+		if p.cells <= p.kept {
+			out.Items = append(out.Items, item)
+		}
+	}
+	if p.cells-from > api.MaxCells {
+		return api.Array{}, api.Limit
 	}
 	return out, api.OK
 }
 
-func (p *pairing) items(x, y api.Item) (api.Item, api.Errno) {
+func (p *pairing) items(x, y *api.Item) (api.Item, api.Errno) {
 	switch {
 	case x.Kind == api.Box || y.Kind == api.Box:
-		a, e := p.arrays(opened(x), opened(y))
-		return boxed(a, e)
+		return p.boxes(opened(x), opened(y))
 	case x.Kind == api.Number && y.Kind == api.Number:
-		n, e := p.do(x.Num, y.Num)
-		return numbered(n, e)
-	case !p.comparesCharacters():
+		return numbered(p.numbers(x.Num, y.Num))
+	case p.glyph != '=' && p.glyph != '≠':
 		return api.Item{}, api.Domain
 	}
 	alike := x.Kind == y.Kind && x.Char == y.Char
 	return numbered(truth(alike == (p.glyph == '=')), api.OK)
 }
 
-func (p *pairing) comparesCharacters() bool {
-	return p.glyph == '=' || p.glyph == '≠'
-}
-
-// refused is the error of two items, without reckoning what becomes of them.
-func (p *pairing) refused(x, y *api.Item) api.Errno {
-	switch {
-	case x.Kind == api.Box || y.Kind == api.Box:
-		return p.refusedArrays(opened(*x), opened(*y))
-	case x.Kind == api.Number && y.Kind == api.Number:
-		if hasNone(p.glyph, &x.Num, &y.Num) {
-			return api.Domain
-		}
-	case !p.comparesCharacters():
-		return api.Domain
+// numbers reckons what is kept, and what may be too great.
+func (p *pairing) numbers(x, y api.Rat) (api.Rat, api.Errno) {
+	if p.cells > p.kept && isSmall(p.glyph, &x, &y) {
+		return unreckoned(p.glyph, x, y)
 	}
-	return api.OK
+	return p.do(x, y)
 }
 
-func (p *pairing) refusedArrays(a, b api.Array) api.Errno {
+func (p *pairing) boxes(a, b api.Array) (api.Item, api.Errno) {
 	shape, e := together(a, b)
 	if e != api.OK {
-		return e
+		return api.Item{}, e
 	}
-	size, _ := array.Size(shape)
-	for i := range size {
-		if e := p.refused(&a.Items[i%len(a.Items)], &b.Items[i%len(b.Items)]); e != api.OK {
-			return e
-		}
-	}
-	return api.OK
+	return boxed(p.through(shape, pairsOf(a, b)))
 }
 
 // together is the shape of what comes of two arrays.
