@@ -110,33 +110,3 @@ func leftBehind(left, digit, radix api.Rat) (api.Rat, api.Errno) {
 	}
 	return rat.Div(rest, radix)
 }
-
-// decoded is the number that has the digits b by the radices a. What came so far goes up by each radix, so that each digit is multiplied by all radices behind its own.
-func decoded(a, b api.Array) (api.Array, api.Errno) {
-	radices, digits := items(a), items(b)
-	switch {
-	case len(a.Shape) > 1 || len(b.Shape) > 1:
-		return api.Array{}, api.Rank
-	case !areNumbers(a, b):
-		return api.Array{}, api.Domain
-	case len(digits) == 0:
-		return array.Int(0), api.OK
-	case len(radices) != len(digits) && len(radices) != 1 && len(digits) != 1:
-		return api.Array{}, api.Length
-	}
-	many := len(digits)
-	if many == 1 {
-		many = len(radices)
-	}
-	sum := rat.OfInt(0)
-	for k := range many {
-		raised, e := rat.Mul(sum, radices[k%len(radices)].Num)
-		if e != api.OK {
-			return api.Array{}, e
-		}
-		if sum, e = rat.Add(raised, digits[k%len(digits)].Num); e != api.OK {
-			return api.Array{}, e
-		}
-	}
-	return array.Rat(sum), api.OK
-}
