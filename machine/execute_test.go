@@ -117,3 +117,25 @@ func TestDeep(t *testing.T) { // P13.3, E1, P1
 		t.Error(o)
 	}
 }
+
+// TestLong: what is long, but not deep, is no matter.
+func TestLong(t *testing.T) { // P13.3
+	m := of(t, "R←C N\nR←0\nL:R←R+1\n→(R<N)/L", "R←T N\nL:R←'7' ⎕EA '"+strings.Repeat("-", 400)+"1÷0'\n→(0<N←N-1)/L")
+	if o := m.Do("C 70000", api.MaxSteps); o.Errno != api.OK || !slices.Equal(o.Shown, []string{"70000"}) {
+		t.Error(o)
+	}
+	if o := m.Do("T 400", api.MaxSteps); o.Errno != api.OK || !slices.Equal(o.Shown, []string{"7"}) {
+		t.Error(o)
+	}
+	shows(t, m, "+/⍎¨⍕¨⍳2000", "2001000")
+}
+
+// TestReadAgain: the same text is another statement, when its names are something else.
+func TestReadAgain(t *testing.T) { // P13.1
+	m := of(t, "F←{⍵+1}")
+	shows(t, m, "⍎'F 1' ⋄ E←⎕EX 'F' ⋄ F←5 ⋄ ⍎'F 1' ⋄ E←⎕EX 'F' ⋄ F←{⍵-1} ⋄ ⍎'F 1'", "2|5 1|0")
+	shows(t, m, "E←⎕EX 'F' ⋄ F←5 ⋄ ⍎'F 1' ⋄ E←⎕EX 'F' ⋄ F←{⍵-1} ⋄ ⍎'F 1' ⋄ E←⎕EX 'F' ⋄ F←6 ⋄ ⍎'F 1'", "5 1|0|6 1")
+	shows(t, m, "E←⎕EX 'F' ⋄ E←⎕FX 'R←F' 'R←3' ⋄ ⍎'F-1' ⋄ E←⎕FX 'R←F X' 'R←10×X' ⋄ ⍎'F-1'", "2|¯10")
+	done(t, m, "P F\n⍎'F 2'", "E←⎕EX 'F'", "F←{⍵×10}")
+	shows(t, m, "⍎'F 2' ⋄ P 7 ⋄ ⍎'F 2'", "20|7 2|20") // it is a local there
+}
