@@ -48,7 +48,7 @@ func (a *author) part(depth int) string {
 
 func (a *author) expression(depth int) string {
 	if depth <= 0 {
-		return a.choice("0", "1", "2", "1 2 3", "A", "B", "⍵", "'a'", "'abc'", "N", "⍳0", "Z", "⍺")
+		return a.choice("0", "1", "2", "1 2 3", "A", "B", "⍵", "'a'", "'abc'", "N", "⍳0", "Z", "⍺", "(⎕IO←0)", "(⎕IO←1)")
 	}
 	switch a.d.next(10) {
 	case 0:

@@ -133,7 +133,9 @@ func (w *work) niladic(t api.Tree) value {
 
 func (w *work) indexed(t api.Tree) value {
 	places := w.places(t.Parts[1:])
-	a, e := pick.At(w.Env(), w.array(t.Parts[0]), places...)
+	of := w.array(t.Parts[0])
+	// What is set is asked behind it: it may have set the origin.
+	a, e := pick.At(w.Env(), of, places...)
 	w.must(e, t.At)
 	return value{a, true}
 }

@@ -114,6 +114,12 @@ func TestSettingCounts(t *testing.T) { // P13.1
 	shows(t, m, "+/[0]2 2⍴1 2 3 4", "4 6")
 	shows(t, m, "{⎕IO←1 ⋄ ⍳⍵}2", "1 2")
 	shows(t, m, "⍳2", "1 2") // it is not localised
+	// It counts as soon as it is set, within a statement, too.
+	for line, want := range map[string]string{
+		"(5 6 7,⎕IO←0)[1]": "6", "(5 6 7)[⎕IO←0]": "5", "A←5 6 ⋄ A[1]←⎕IO←0 ⋄ A": "5 0", "A←5 6 ⋄ A[⎕IO←0]←9 ⋄ A": "9 6", "(⍳2),⎕IO←0": "0 1 0", "(⎕IO←0),⍳2": "0 1 2", "+/[⎕IO←0]2 2⍴1 2 3 4": "4 6", "{⍵:⍳2}⎕IO←1": "1 2", "(⍎'⎕IO←0')⌷5 6": "5", "(2⊃5 6)+⎕IO←1": "7",
+	} {
+		shows(t, m.Fork(), line, want)
+	}
 	if e := m.Env(); e.IO != 1 || len(e.CT.Den) != 1 || e.CT.Den[0] != 10 || e.PP != 10 {
 		t.Error(e)
 	}
